@@ -11,7 +11,10 @@ TOO_LATE = -75
 SPAN = 1500
 LAST_MINUTE = 100000
 MOST_MINUTES = 1000
-MOST_MINUTES_TO_FIT = 300
+MOST_OF_FEW_MINUTES = 300
+
+MOST_BEDS_OF_A_ROUND = 4
+MOST_MINUTES_AT_A_BED = 60
 
 HIGHEST_BASE = 10000
 HIGHEST_BED = 20000
@@ -32,8 +35,17 @@ def is_how_many(minutes):
     return 1 <= minutes <= MOST_MINUTES
 
 
-def is_how_many_to_fit(minutes):
-    return 1 <= minutes <= MOST_MINUTES_TO_FIT
+def is_few(minutes):
+    """How many minutes fits and least may ask for: fewer than the other calls."""
+    return 1 <= minutes <= MOST_OF_FEW_MINUTES
+
+
+def is_at_a_bed(minutes):
+    return 1 <= minutes <= MOST_MINUTES_AT_A_BED
+
+
+def are_different(beds):
+    return len(set(beds)) == len(beds)
 
 
 def is_bed_height(height):

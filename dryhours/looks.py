@@ -1,11 +1,12 @@
-"""The calls that only look. Each gives back the list of numbers that it answers.
+"""The calls that look at a minute, from a minute on, or at what is now.
 
-Whether the shore is begun and the bed is there is asked before these are called.
+Each gives back the list of numbers that it answers. Whether the shore is begun and the bed is there is asked before
+these are called.
 """
 
-from dryhours.dryness import dry_minutes_from, dry_stretches, first_fit, first_minute
+from dryhours.dryness import dry_minutes_from, first_fit, first_minute
 from dryhours.limits import NOT_SO_SOON, OUT_OF_RANGE, SPAN
-from dryhours.limits import is_how_many, is_how_many_to_fit, is_minute
+from dryhours.limits import is_few, is_minute
 
 
 def tell_height(shore, minute):
@@ -17,9 +18,7 @@ def tell_height(shore, minute):
 def tell_dry(shore, bed, minute):
     if not is_minute(minute):
         return [OUT_OF_RANGE]
-    if shore.is_dry(bed, minute):
-        return [1]
-    return [0]
+    return [one_if_dry(shore, bed, minute)]
 
 
 def tell_next(shore, bed, minute):
@@ -47,7 +46,7 @@ def tell_lasts(shore, bed, minute):
 
 
 def tell_fits(shore, bed, minute, how_many):
-    if not is_minute(minute) or not is_how_many_to_fit(how_many):
+    if not is_minute(minute) or not is_few(how_many):
         return [OUT_OF_RANGE]
     first = first_fit(shore, bed, minute, how_many)
     if first is None:
@@ -55,16 +54,25 @@ def tell_fits(shore, bed, minute, how_many):
     return [first]
 
 
-def tell_longest(shore, bed, minute, how_many):
-    if not is_minute(minute) or not is_how_many(how_many):
+def tell_all(shore, minute):
+    if not is_minute(minute):
         return [OUT_OF_RANGE]
-    longest = 0
-    begins = minute
-    for first, lasted in dry_stretches(shore, bed, minute, how_many):
-        # Of stretches as long the first is told, so only a longer one takes its place.
-        if lasted > longest:
-            longest = lasted
-            begins = first
-    if longest == 0:
-        return [NOT_SO_SOON]
-    return [longest, begins]
+    dry = [bed for bed in range(len(shore.beds)) if shore.is_dry(bed, minute)]
+    return [len(dry)] + dry
+
+
+def tell_works(shore):
+    return [len(shore.beds)] + [bed.worked for bed in shore.beds]
+
+
+def tell_look(shore, bed):
+    looked_at = shore.beds[bed]
+    return [looked_at.height, looked_at.worked, one_if_dry(shore, bed, shore.minute)]
+
+
+def tell_state(shore):
+    return [0, shore.minute, shore.base, len(shore.waves), len(shore.beds), shore.water_at(shore.minute)]
+
+
+def one_if_dry(shore, bed, minute):
+    return 1 if shore.is_dry(bed, minute) else 0

@@ -1,9 +1,7 @@
-"""Point 1: begin, wave, bed, raise, minutes, work."""
+"""Point 1: begin, wave, bed, raise, minutes, work. (That work is kept: test_state.)"""
 
 import unittest
 
-from dryhours.changes import add_bed, begin, raise_bed, work_at_bed
-from dryhours.shore import Shore
 from tests.helper import GREATEST, NO_SUCH_BED, NOT_DRY, OUT_OF_RANGE, TOO_LATE, TOO_MANY
 from tests.helper import last, run, slope, up_to_minute
 
@@ -228,50 +226,6 @@ class Work(unittest.TestCase):
     def test_refused_no_minute_goes_by(self):
         told = run(*self.BED_AT_100, ("work", 0, 101), ("work", 1, 1), ("work", 0, 0), ("minutes", 1))
         self.assertEqual(told[3:], [NOT_DRY, NO_SUCH_BED, OUT_OF_RANGE, [1, 1]])
-
-
-class WorkIsKept(unittest.TestCase):
-    """No call that is built tells a bed's minutes of work, so the object is looked at."""
-
-    def setUp(self):
-        self.shore = Shore()
-        begin(self.shore, 5)
-        add_bed(self.shore, 6)
-        add_bed(self.shore, 5)
-        add_bed(self.shore, 7)
-
-    def worked(self):
-        return [bed.worked for bed in self.shore.beds]
-
-    def test_none_at_first(self):
-        self.assertEqual(self.worked(), [0, 0, 0])
-
-    def test_bed_by_bed(self):
-        work_at_bed(self.shore, 0, 10)
-        work_at_bed(self.shore, 2, 3)
-        work_at_bed(self.shore, 0, 1)
-        self.assertEqual(self.worked(), [11, 0, 3])
-
-    def test_refused_it_does_not_count(self):
-        work_at_bed(self.shore, 0, 10)
-        self.assertEqual(work_at_bed(self.shore, 1, 10), NOT_DRY)
-        self.assertEqual(work_at_bed(self.shore, 0, 1001), OUT_OF_RANGE)
-        self.shore.minute = 100000
-        self.assertEqual(work_at_bed(self.shore, 0, 1), TOO_LATE)
-        self.assertEqual(self.worked(), [10, 0, 0])
-
-    def test_it_stays_when_the_bed_is_raised(self):
-        work_at_bed(self.shore, 0, 10)
-        raise_bed(self.shore, 0, 3)
-        self.assertEqual(self.worked(), [10, 0, 0])
-
-    def test_a_new_begin_forgets_it(self):
-        work_at_bed(self.shore, 0, 10)
-        begin(self.shore, 10001)
-        self.assertEqual(self.worked(), [10, 0, 0])
-        begin(self.shore, 5)
-        add_bed(self.shore, 6)
-        self.assertEqual(self.worked(), [0])
 
 
 if __name__ == "__main__":

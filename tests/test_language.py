@@ -35,6 +35,15 @@ WORDS_LEFT_OUT = (
 
 PARTS_LEFT_OUT = ("dataclass", "overload", "contextmanager")
 
+NAMES_LEFT_OUT = (
+    "register mro elements open input version_info with_traceback add_note attrgetter breakpoint builtins compile "
+    "copyright credits delattr dir eval exec exit gc getattr globals hasattr help id importlib license locals "
+    "methodcaller os quit setattr super type vars sys format format_map"
+).split()
+
+WALKED = ("zip", "enumerate", "reversed", "range")
+WALKED_IN = ("list", "tuple", "dict", "sorted", "sum", "any", "all", "enumerate", "zip", "min", "max")
+
 
 def bound_names(tree):
     names = []
@@ -48,6 +57,24 @@ def bound_names(tree):
         elif isinstance(node, ast.Attribute) and isinstance(node.ctx, ast.Store):
             names.append(node.attr)
     return names
+
+
+def parents(tree):
+    """By each node: the one that it stands in."""
+    return {child: node for node in ast.walk(tree) for child in ast.iter_child_nodes(node)}
+
+
+def called(node):
+    """The name that is called, if it's one of its own."""
+    if isinstance(node, ast.Call) and isinstance(node.func, ast.Name):
+        return node.func.id
+    return None
+
+
+def is_walked_at_once(node, parent):
+    if isinstance(parent, (ast.For, ast.comprehension)):
+        return parent.iter is node
+    return called(parent) in WALKED_IN and parent.args[0] is node
 
 
 class Language(unittest.TestCase):
@@ -126,6 +153,67 @@ class Language(unittest.TestCase):
                     self.assertIn(node.id, OWN_NAMES, name)
                 if isinstance(node, ast.Call) and isinstance(node.func, ast.Attribute):
                     self.assertIn(node.func.attr, METHODS + methods, name)
+
+    def test_names_left_out(self):
+        for name, tree in self.trees.items():
+            for node in ast.walk(tree):
+                for said in (getattr(node, "id", ""), getattr(node, "attr", ""), getattr(node, "name", "")):
+                    self.assertNotIn(said, NAMES_LEFT_OUT, name)
+
+    def test_each_name_once_and_no_local_called_like_a_class_or_an_import(self):
+        for name, tree in self.trees.items():
+            imports = [alias.name for node in tree.body if isinstance(node, ast.ImportFrom) for alias in node.names]
+            defs = [node.name for node in tree.body if isinstance(node, (ast.FunctionDef, ast.ClassDef))]
+            given = [node.targets[0].id for node in tree.body if isinstance(node, ast.Assign)]
+            top = imports + defs + given
+            self.assertEqual(len(top), len(set(top)), name)
+            for node in ast.walk(tree):
+                if isinstance(node, ast.FunctionDef):
+                    inside = bound_names(ast.Module([node.args, *node.body], []))
+                    locals_there = set(inside) - {own.attr for own in ast.walk(node) if isinstance(own, ast.Attribute)}
+                    self.assertFalse(locals_there & set(top), f"{name} {node.name}")
+
+    def test_no_two_files_draw_from_one_another(self):
+        draws = {}
+        for name, tree in self.trees.items():
+            drawn = [node.module.split(".")[1] + ".py" for node in tree.body if isinstance(node, ast.ImportFrom)]
+            draws[name] = set(drawn)
+        while draws:
+            last_ones = [name for name, drawn in draws.items() if not drawn & set(draws)]
+            self.assertTrue(last_ones, draws)
+            for name in last_ones:
+                draws.pop(name)
+
+    def test_no_name_is_a_method_and_a_value(self):
+        methods, values = [], []
+        for tree in self.trees.values():
+            for node in ast.walk(tree):
+                if isinstance(node, ast.ClassDef):
+                    own = [method.name for method in node.body if isinstance(method, ast.FunctionDef)]
+                    self.assertEqual(len(own), len(set(own)), node.name)
+                    methods += own
+                if isinstance(node, ast.Attribute) and isinstance(node.ctx, ast.Store):
+                    values.append(node.attr)
+        self.assertFalse(set(methods) & set(values))
+        for own in (str, int, list, dict, set, bytes):
+            self.assertFalse(set(values) & set(dir(own)))
+            self.assertFalse((set(methods) - {"__init__"}) & set(dir(own)))
+
+    def test_is_and_sets_and_what_is_walked_at_once(self):
+        for name, tree in self.trees.items():
+            above = parents(tree)
+            for node in ast.walk(tree):
+                where = f"{name} {getattr(node, 'lineno', '')}"
+                if isinstance(node, ast.Compare) and isinstance(node.ops[0], (ast.Is, ast.IsNot)):
+                    self.assertIsInstance(node.comparators[0], ast.Constant, where)
+                if called(node) in WALKED:
+                    self.assertTrue(is_walked_at_once(node, above[node]), where)
+                if called(node) == "set":
+                    self.assertIn(called(above[node]), ("len", "sorted"), where)
+                self.assertNotIsInstance(node, (ast.Set, ast.AnnAssign), where)
+                if isinstance(node, ast.ListComp):
+                    self.assertEqual(len(node.generators), 1, where)
+                    self.assertLessEqual(len(node.generators[0].ifs), 1, where)
 
     def test_the_top_of_a_file(self):
         for name, tree in self.trees.items():

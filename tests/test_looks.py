@@ -1,34 +1,17 @@
-"""Point 2: dry, next, wet, lasts, fits; and point 3: longest. (Of height see test_waves.)"""
+"""Point 2: dry, next, wet, lasts, fits. (Of height see test_waves.)"""
 
 import unittest
 
-from dryhours.changes import add_bed, add_wave, begin
-from dryhours.dryness import dry_stretches
-from dryhours.shore import Shore
-from tests.helper import GREATEST, NO_SUCH_BED, NOT_SO_SOON, OUT_OF_RANGE
+from tests.helper import ALWAYS, GREATEST, HIGH, LOW, NEVER, NO_SUCH_BED, NOT_SO_SOON, OFTEN, OUT_OF_RANGE, SLOPE
 from tests.helper import last, run, slope
-
-# Its water is as high as the minute is away from 0, 2000, 4000 and so on.
-SLOPE = [("begin", 0), slope(0)]
-
-# Dry from 0 to 99, from 1901 to 2099, from 3901 to 4099.
-LOW = [*SLOPE, ("bed", 100)]
-
-# Dry from 0 to 899, from 1101 to 2899, from 3101 to 4899.
-HIGH = [*SLOPE, ("bed", 900)]
-
-ALWAYS = [*SLOPE, ("bed", 1001)]
-NEVER = [*SLOPE, ("bed", 0)]
-
-# Dry from 0 to 2, from 8 to 12, from 18 to 22.
-OFTEN = [("begin", 0), ("wave", 10, 10, 0), ("bed", 5)]
 
 
 class Refusals(unittest.TestCase):
-    """What dry, next, wet, lasts, fits and longest refuse alike."""
+    """What the calls refuse alike that are about a bed and a minute."""
 
     # Each call with as many minutes as are always in range.
-    CALLS = (("dry",), ("next",), ("wet",), ("lasts",), ("fits", 1), ("longest", 1))
+    CALLS = (("dry",), ("next",), ("wet",), ("lasts",), ("fits", 1), ("longest", 1),
+             ("many", 1), ("stretches", 1))
 
     def test_no_such_bed(self):
         for name, *more in self.CALLS:
@@ -56,7 +39,7 @@ class Refusals(unittest.TestCase):
         for name, *more in self.CALLS:
             with self.subTest(name=name):
                 self.assertEqual(last(*OFTEN, (name, 1, 100001, *more)), NO_SUCH_BED)
-        for name in ("fits", "longest"):
+        for name in ("fits", "longest", "many", "stretches"):
             for how_many in (0, 1001, GREATEST):
                 self.assertEqual(last(*OFTEN, (name, 1, 0, how_many)), NO_SUCH_BED)
 
@@ -251,60 +234,6 @@ class Fits(unittest.TestCase):
         self.assertEqual(last(*LOW, ("fits", 0, 100000, 100)), [100000])
         self.assertEqual(last(("begin", 0), slope(1549), ("bed", 50), ("fits", 0, 100000, 99)), [101500])
         self.assertEqual(last(("begin", 0), slope(1550), ("bed", 50), ("fits", 0, 100000, 99)), NOT_SO_SOON)
-
-
-class Longest(unittest.TestCase):
-    def test_ordinary(self):
-        self.assertEqual(last(*OFTEN, ("longest", 0, 1, 12)), [5, 8])
-        self.assertEqual(last(*OFTEN, ("longest", 0, 8, 12)), [5, 8])
-        self.assertEqual(last(*OFTEN, ("longest", 0, 10, 12)), [4, 18])
-
-    def test_range(self):
-        for how_many in (1, 2, 1000):
-            self.assertEqual(last(*ALWAYS, ("longest", 0, 7, how_many)), [how_many, 7])
-        for how_many in (0, 1001, GREATEST):
-            self.assertEqual(last(*ALWAYS, ("longest", 0, 7, how_many)), OUT_OF_RANGE)
-
-    def test_of_alike_ones_the_first(self):
-        self.assertEqual(last(*OFTEN, ("longest", 0, 3, 20)), [5, 8])
-        self.assertEqual(last(*OFTEN, ("longest", 0, 3, 1000)), [5, 8])
-        self.assertEqual(last(*OFTEN, ("longest", 0, 9, 13)), [4, 9])
-        self.assertEqual(last(*OFTEN, ("longest", 0, 9, 14)), [5, 18])
-
-    def test_one_that_begins_at_t(self):
-        self.assertEqual(last(*OFTEN, ("longest", 0, 0, 8)), [3, 0])
-        self.assertEqual(last(*OFTEN, ("longest", 0, 8, 10)), [5, 8])
-        self.assertEqual(last(*OFTEN, ("longest", 0, 12, 6)), [1, 12])
-
-    def test_one_that_ends_with_the_minutes(self):
-        self.assertEqual(last(*OFTEN, ("longest", 0, 3, 6)), [1, 8])
-        self.assertEqual(last(*OFTEN, ("longest", 0, 3, 10)), [5, 8])
-        self.assertEqual(last(*OFTEN, ("longest", 0, 3, 9)), [4, 8])
-        self.assertEqual(last(*OFTEN, ("longest", 0, 1, 10)), [3, 8])
-
-    def test_no_dry_minute(self):
-        self.assertEqual(last(*OFTEN, ("longest", 0, 3, 5)), NOT_SO_SOON)
-        self.assertEqual(last(*OFTEN, ("longest", 0, 3, 1)), NOT_SO_SOON)
-        self.assertEqual(last(*NEVER, ("longest", 0, 0, 1000)), NOT_SO_SOON)
-        self.assertEqual(last(*LOW, ("longest", 0, 100, 1000)), NOT_SO_SOON)
-
-    def test_all_dry(self):
-        self.assertEqual(last(*OFTEN, ("longest", 0, 9, 3)), [3, 9])
-        self.assertEqual(last(*OFTEN, ("longest", 0, 12, 1)), [1, 12])
-        self.assertEqual(last(*ALWAYS, ("longest", 0, 100000, 1000)), [1000, 100000])
-
-    def test_behind_minute_100000(self):
-        self.assertEqual(last(*OFTEN, ("longest", 0, 100000, 1000)), [5, 100008])
-        self.assertEqual(last(*LOW, ("longest", 0, 100000, 1000)), [100, 100000])
-
-    def test_the_stretches_that_it_chooses_from(self):
-        shore = Shore()
-        begin(shore, 0)
-        add_wave(shore, 10, 10, 0)
-        add_bed(shore, 5)
-        self.assertEqual(dry_stretches(shore, 0, 1, 20), [(1, 2), (8, 5), (18, 3)])
-        self.assertEqual(dry_stretches(shore, 0, 3, 10), [(8, 5)])
-        self.assertEqual(dry_stretches(shore, 0, 3, 5), [])
 
 
 if __name__ == "__main__":
