@@ -4,7 +4,8 @@ import itertools
 import random
 import unittest
 
-from tests.helper import run, some_beds, some_line, some_look, some_minute, some_round, some_wave, some_waves, some_wrong
+from tests.helper import run, some_beds, some_line, some_look, some_minute, some_round, some_wave, some_waves
+from tests.helper import some_wrong
 
 
 class AComesAgain(unittest.TestCase):

@@ -59,7 +59,8 @@ class Refusals(unittest.TestCase):
             self.told(SIX, 0, pairs, OUT_OF_RANGE)
 
     def test_a_bed_told_twice(self):
-        for pairs in ([2, 5, 2, 5], [2, 5, 2, 6], [2, 5, 4, 5, 2, 5], [4, 1, 2, 1, 0, 1, 2, 1], [0, 1, 2, 1, 4, 1, 4, 1]):
+        for pairs in ([2, 5, 2, 5], [2, 5, 2, 6], [2, 5, 4, 5, 2, 5], [4, 1, 2, 1, 0, 1, 2, 1],
+                      [0, 1, 2, 1, 4, 1, 4, 1]):
             self.told(SIX, 0, pairs, OUT_OF_RANGE)
 
     def test_minutes_like_another_pair_s_are_no_bed_told_twice(self):
@@ -77,7 +78,8 @@ class Refusals(unittest.TestCase):
             self.told(SIX, 0, [0, 1, 1, 1, 4, 1, 2, how_many], OUT_OF_RANGE)
 
     def test_a_bed_that_is_not_there(self):
-        for pairs in ([6, 5], [65535, 60], [2, 5, 6, 5], [6, 5, 2, 5], [0, 1, 1, 1, 2, 1, 6, 1], [6, 1, 7, 1, 8, 1, 9, 1]):
+        for pairs in ([6, 5], [65535, 60], [2, 5, 6, 5], [6, 5, 2, 5], [0, 1, 1, 1, 2, 1, 6, 1],
+                      [6, 1, 7, 1, 8, 1, 9, 1]):
             self.told(SIX, 0, pairs, NO_SUCH_BED)
         self.told(ALWAYS, 0, [1, 5], NO_SUCH_BED)
         self.told(SHORT, 0, [0, 5], NO_SUCH_BED)
